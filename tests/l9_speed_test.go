@@ -673,6 +673,13 @@ func TestSmoothProfile(t *testing.T) {
 			}
 		}
 	})
+	// A mean of three never changes by more than the speeds themselves.
+	for seed := range 2000 {
+		profile, a := profileOf(seed)
+		if s, ok := impl.SmoothProfile(profile); !ok || !keeps(s, a) {
+			t.Fatalf("SmoothProfile(%v) = %v, %v, which does not keep %d", profile, s, ok, a)
+		}
+	}
 	for _, list := range invalidProfiles() {
 		if s, ok := impl.SmoothProfile(list); ok || len(s) != 0 {
 			t.Errorf("SmoothProfile(%.300s) = %v, %v", fmt.Sprint(list), s, ok)
